@@ -15,11 +15,11 @@ func Cell(c api.Cell) api.Cell {
 
 // Cells are cells with numbers of their own.
 func Cells(l []api.Cell) []api.Cell {
-	out := make([]api.Cell, len(l))
+	l = slices.Clone(l)
 	for i, c := range l {
-		out[i] = Cell(c)
+		l[i] = Cell(c)
 	}
-	return out
+	return l
 }
 
 // Line is a line with cells of its own.
@@ -30,10 +30,9 @@ func Line(l api.Line) api.Line {
 
 // View is a view with lines of its own.
 func View(v api.View) api.View {
-	lines := make([]api.Line, len(v.Lines))
+	v.Lines = slices.Clone(v.Lines)
 	for i, l := range v.Lines {
-		lines[i] = Line(l)
+		v.Lines[i] = Line(l)
 	}
-	v.Lines = lines
 	return v
 }
