@@ -37,6 +37,7 @@ func TestLook(t *testing.T) {
 		want []mistake
 	}{
 		{"nothing", api.View{Wide: 2, High: 1, Lines: []api.Line{line(lead(0x61), spacer())}}, nil},
+		{"the greatest sides", api.View{Wide: 1024, High: 1024, Lines: slices.Repeat([]api.Line{line(make([]api.Cell, 1024)...)}, 1024)}, nil},
 		{"the chapter's example", api.View{Wide: 1, High: 1, Lines: []api.Line{line(spacer())}}, []mistake{{2, 0, 0}}},
 		{"the zero view", api.View{}, []mistake{{3, -1, -1}}},
 		{"more lines than rows", api.View{Wide: 1, High: 1, Lines: []api.Line{line(blank()), line(blank())}}, []mistake{{3, -1, -1}}},

@@ -110,7 +110,8 @@ func TestRowAndSet(t *testing.T) {
 		t.Error("a row is set that may not be")
 	}
 	r := row.New(2)
-	if !g.Set(1, r) || g.Row(1) != r {
+	first := row.New(2)
+	if !g.Set(0, first) || g.Row(0) != first || !g.Set(1, r) || g.Row(1) != r {
 		t.Error("a row is not set")
 	}
 	if err := r.Paint(0, lead(0x63), spacer()); err != nil {

@@ -31,6 +31,15 @@ func TestExamples(t *testing.T) {
 	}
 }
 
+// 7.1: numbers from 0 on.
+func TestFirst(t *testing.T) {
+	l := []api.Span{{Lo: 0, Hi: 0, Val: 1}, {Lo: 256, Hi: 511, Val: 2}}
+	b := Build(l)
+	if b.Get(0) != 1 || b.Get(1) != 0 || b.Get(255) != 0 || b.Get(256) != 2 || b.Blocks() != 3 || !slices.Equal(b.Spans(), l) {
+		t.Error(b.Get(0), b.Blocks(), b.Spans())
+	}
+}
+
 // 7.1: pages that there are, and others.
 func TestBlock(t *testing.T) {
 	b := Build([]api.Span{{Lo: 0x10ffff, Hi: 0x10ffff, Val: 65535}})

@@ -83,7 +83,7 @@ func TestParseWrong(t *testing.T) {
 		"flush ": 1, "flush 0": 1, "flush\n": 0, "size 3 1": 0,
 		"move": 1, "move 1": 2, "move 1 ": 2, "move x 1": 1, "move 1 x": 2, "move 1 2 3": 3, "move x y z": 1,
 		"move 01 1": 1, "move -0 1": 1, "move - 1": 1, "move +1 1": 1, "move 1 1000000000": 2, "move 1 -1000000000": 2, "move 00 0": 1, "move 1 -01": 2, "move 1_0 1": 1, "move 1 ٣": 2,
-		"erase": 1, "erase lines 1": 1, "erase line": 2, "erase line x": 2, "erase line 1 2": 3, "erase  line 1": 1, "erase up 1": 1,
+		"erase": 1, "erase 5": 1, "scroll 1": 1, "insert 3": 1, "delete 2": 1, "erase lines 1": 1, "erase line": 2, "erase line x": 2, "erase line 1 2": 3, "erase  line 1": 1, "erase up 1": 1,
 		"insert line 1": 1, "insert screen 1": 1, "delete screen 1": 1, "insert cells": 2, "delete lines -": 2, "scroll left 1": 1, "scroll up": 2, "scroll up one": 2,
 		"wrap": 1, "wrap 1": 1, "wrap On": 1, "wrap on off": 2, "resize 1": 2, "resize 1 2 3": 3, "line 1": 0, "cells": 0,
 	} {

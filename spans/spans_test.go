@@ -161,6 +161,9 @@ func TestSumMost(t *testing.T) {
 	if got := Sum(list{{Lo: 0, Hi: 4, Val: 65535}}, list{{Lo: 5, Hi: 9, Val: 65535}}); !slices.Equal(got, list{{Lo: 0, Hi: 9, Val: 65535}}) {
 		t.Error(got)
 	}
+	if got := Sum(list{{Lo: 5, Hi: 9, Val: 65535}}, list{{Lo: 0, Hi: 4, Val: 65535}}); !slices.Equal(got, list{{Lo: 0, Hi: 9, Val: 65535}}) {
+		t.Error(got)
+	}
 	if got := Sum(list{{Lo: 0x10ffff, Hi: 0x10ffff, Val: 3}}); !slices.Equal(got, list{{Lo: 0x10ffff, Hi: 0x10ffff, Val: 3}}) {
 		t.Error(got)
 	}

@@ -32,6 +32,8 @@ func TestPut(t *testing.T) {
 	}{
 		{viewOf(api.Cell{}), []byte{0x4c, 1, 1, 0, 0, 2, 0, 2}},
 		{viewOf(one(0x61), one(0x62, 0x301), api.Cell{}, api.Cell{}, lead(0x4e00), spacer()), []byte{0x4c, 6, 1, 0, 0, 2, 0, 5, 2, 'a', 6, 'b', 0xcc, 0x81, 4, 5, 7, 0xe4, 0xb8, 0x80}},
+		{viewOf(cell.Blanks(64)...), []byte{0x4c, 64, 1, 0, 0, 2, 0, 0x80, 1}},
+		{viewOf(cell.Blanks(128)...), []byte{0x4c, 0x80, 1, 1, 0, 0, 2, 0, 0x80, 2}},
 		{wide, []byte{0x4c, 0xac, 2, 1, 0, 0xab, 2, 1, 1, 0xd8, 4}},
 	} {
 		got, err := Put(x.v)
