@@ -5,6 +5,7 @@ import (
 	"strings"
 
 	"linotype/api"
+	"linotype/cell"
 )
 
 // check holds each word against what it must be; one that is missing, or one too many, is wrong, too.
@@ -67,7 +68,7 @@ func digits(word string, base, most int) (int, bool) {
 	return int(n), err == nil
 }
 
-// readCell is the cell of a word; whether it may be is another thing.
+// readCell is the cell of a word: numbers that make no cell that may be are a wrong word, too.
 func readCell(word string) (api.Cell, bool) {
 	switch word {
 	case blankWord:
@@ -86,5 +87,5 @@ func readCell(word string) (api.Cell, bool) {
 		}
 		c.Text = append(c.Text, rune(n))
 	}
-	return c, true
+	return c, cell.Right(c)
 }
